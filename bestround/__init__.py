@@ -1,0 +1,1 @@
+"""Bestround: gates that multiply and add, and the best order to pass them."""

@@ -1,0 +1,41 @@
+"""The limits of fractions, lists of gates and orders."""
+
+from bestround.errors import BadCount, NoOrder
+
+GREATEST_NUMBER = 1000000
+MOST_GATES = 8
+
+
+def check_fraction(fraction):
+    top, bottom = fraction
+    if bottom < 1:
+        raise BadCount("bottom", bottom)
+    for number in (top, bottom):
+        if not -GREATEST_NUMBER <= number <= GREATEST_NUMBER:
+            raise BadCount("number", number)
+
+
+def check_gates(gates):
+    if not 1 <= len(gates) <= MOST_GATES:
+        raise BadCount("gates", len(gates))
+
+
+def is_number(thing):
+    # Python counts True and False as integers; the package does not.
+    return isinstance(thing, int) and not isinstance(thing, bool)
+
+
+def is_order(order, many):
+    if len(order) != many:
+        return False
+    seen = set()
+    for index in order:
+        if not is_number(index) or not 0 <= index < many:
+            return False
+        seen.add(index)
+    return len(seen) == many
+
+
+def check_order(gates, order):
+    if not is_order(order, len(gates)):
+        raise NoOrder()

@@ -1,0 +1,97 @@
+"""The examples of the document that the landed stages cover, copied from it word for word."""
+
+import unittest
+
+from bestround.errors import GateError
+
+EXAMPLES = """
+>>> from bestround.gates import Gate
+>>> Gate((0, 1), (1, 1))
+raises BadCount(what='factor', count=0)
+
+>>> from bestround.gates import Gate
+>>> Gate((2000000, 2), (1, 1))
+raises BadCount(what='number', count=2000000)
+
+>>> from bestround.gates import Gate
+>>> gate = Gate((2, 4), (3, 1))
+>>> (gate.factor, gate.amount)
+((1, 2), (3, 1))
+
+>>> from bestround.gates import Gate, carry
+>>> carry(Gate((1, 2), (3, 1)), (4, 1))
+(5, 1)
+
+>>> from bestround.gates import Gate, rest
+>>> (rest(Gate((1, 2), (3, 1))), rest(Gate((1, 1), (0, 1))), rest(Gate((1, 1), (2, 1))))
+((6, 1), 'all', None)
+
+>>> from bestround.gates import Gate, line
+>>> gates = [Gate((1, 2), (3, 1)), Gate((1, 1), (1, 1)), Gate((2, 1), (-1, 1))]
+>>> whole = line(gates, [0, 1, 2])
+>>> (whole.factor, whole.amount)
+((1, 1), (7, 1))
+
+>>> from bestround.gates import Gate, line
+>>> gates = [Gate((1, 2), (3, 1)), Gate((1, 1), (1, 1)), Gate((2, 1), (-1, 1))]
+>>> line(gates, [0, 1, 1])
+raises NoOrder
+
+>>> from bestround.gates import Gate, worth
+>>> gates = [Gate((1, 2), (3, 1)), Gate((1, 1), (1, 1)), Gate((2, 1), (-1, 1))]
+>>> worth(gates, [0, 1, 2], [2, 1, 0])
+(4, 1)
+
+>>> from bestround.gates import Gate, turn
+>>> gates = [Gate((1, 2), (3, 1)), Gate((1, 1), (1, 1)), Gate((2, 1), (-1, 1))]
+>>> turn(gates[0], gates[1])
+1
+
+>>> from bestround.gates import Gate
+>>> from bestround.paths import points
+>>> gates = [Gate((1, 2), (3, 1)), Gate((1, 1), (1, 1)), Gate((2, 1), (-1, 1))]
+>>> points(gates, [0, 1, 2])
+[((0, 1), (0, 1)), ((1, 1), (6, 1)), ((1, 1), (8, 1)), ((0, 1), (7, 1))]
+
+>>> from bestround.gates import Gate
+>>> from bestround.paths import gain
+>>> gates = [Gate((1, 2), (3, 1)), Gate((1, 1), (1, 1)), Gate((2, 1), (-1, 1))]
+>>> found = gain(gates, [2, 1, 0])
+>>> (found.begin, found.middle, found.end, found.worth)
+(0, 1, 2, (1, 2))
+
+>>> from bestround.gates import Gate
+>>> from bestround.paths import gain
+>>> gates = [Gate((1, 2), (3, 1)), Gate((1, 1), (1, 1)), Gate((2, 1), (-1, 1))]
+>>> gain(gates, [0, 1, 2])
+None
+"""
+
+
+def told_error(error):
+    fields = ", ".join(f"{name}={value!r}" for name, value in vars(error).items())
+    return f"raises {error.__class__.__name__}" + (f"({fields})" if fields else "")
+
+
+def last_answer(rows):
+    """Run the rows of a session and show the last result, or the error that the last row raises."""
+    names = {}
+    for row in rows[:-1]:
+        exec(row, names)
+    try:
+        return repr(eval(rows[-1], names))
+    except GateError as error:
+        return told_error(error)
+
+
+class ExamplesTest(unittest.TestCase):
+    def test_examples(self):
+        blocks = EXAMPLES.strip().split("\n\n")
+        for block in blocks:
+            *rows, wanted = block.split("\n")
+            with self.subTest(block=block):
+                self.assertEqual(last_answer([row.removeprefix(">>> ") for row in rows]), wanted)
+
+
+if __name__ == "__main__":
+    unittest.main()
