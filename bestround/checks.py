@@ -4,6 +4,7 @@ from bestround.errors import BadCount, NoOrder
 
 GREATEST_NUMBER = 1000000
 MOST_GATES = 8
+MOST_LOOSE = 4
 
 
 def check_fraction(fraction):
@@ -18,6 +19,11 @@ def check_fraction(fraction):
 def check_gates(gates):
     if not 1 <= len(gates) <= MOST_GATES:
         raise BadCount("gates", len(gates))
+
+
+def check_loose(some):
+    if not 1 <= len(some) <= MOST_LOOSE:
+        raise BadCount("loose", len(some))
 
 
 def is_number(thing):

@@ -46,15 +46,20 @@ def rest(line):
     return None
 
 
-def line(gates, order):
-    """Return the Line of the whole passage."""
-    check_gates(gates)
-    check_order(gates, order)
+def passage(gates, order):
+    """Return the Line of the whole passage of gates or lines, without any limits."""
     whole = Line(ONE, ZERO)
     for index in order:
         gate = gates[index]
         whole = Line(times(gate.factor, whole.factor), carry(gate, whole.amount))
     return whole
+
+
+def line(gates, order):
+    """Return the Line of the whole passage."""
+    check_gates(gates)
+    check_order(gates, order)
+    return passage(gates, order)
 
 
 def worth(gates, order, other):

@@ -46,6 +46,13 @@ def block_pairs(many):
             for end in range(middle + 1, many + 1)]
 
 
+def exchanged(order, exchange):
+    """Return a new order, in which the two blocks of the exchange have changed places."""
+    begin, middle, end = exchange.begin, exchange.middle, exchange.end
+    old = list(order)
+    return old[:begin] + old[middle:end] + old[begin:middle] + old[end:]
+
+
 def gain(gates, order):
     """Return the first exchange that increases the amount of the whole, None if there is none."""
     path = points(gates, order)

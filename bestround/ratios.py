@@ -27,6 +27,10 @@ def minus(one, other):
     return lowest((one[0] * other[1] - other[0] * one[1], one[1] * other[1]))
 
 
+def negative(fraction):
+    return lowest((-fraction[0], fraction[1]))
+
+
 def times(one, other):
     return lowest((one[0] * other[0], one[1] * other[1]))
 
@@ -48,3 +52,15 @@ def sign(fraction):
     if top < 0:
         return -1
     return 0
+
+
+def below(one, other):
+    return one[0] * other[1] < other[0] * one[1]
+
+
+def smaller(one, other):
+    return lowest(other) if below(other, one) else lowest(one)
+
+
+def greater(one, other):
+    return lowest(other) if below(one, other) else lowest(one)

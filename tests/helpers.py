@@ -1,6 +1,7 @@
 """What several test files need: an independent calculation, and the error that a call raises."""
 
 from fractions import Fraction
+from functools import cmp_to_key
 from itertools import permutations, product
 
 from bestround.errors import GateError
@@ -67,3 +68,95 @@ def parallel_gates(draw, count):
         amount = (1 - factor) * draw.choice([2, 2, -1])
         gates.append(Gate(pair(factor), pair(amount)))
     return gates
+
+
+NOTHING = Gate((1, 1), (0, 1))
+# The whole line of a best order changes nothing, so all its rotations are best.
+CLOSED = (Gate((1, 1), (-12, 1)), Gate((1, 2), (0, 1)), Gate((1, 1), (6, 1)), Gate((2, 1), (0, 1)))
+# Gates 0 and 1 have one direction; best orders begin with one of them or with both, and may end with the other.
+SPLIT = (Gate((1, 2), (1, 1)), Gate((3, 4), (1, 2)), Gate((1, 1), (-4, 1)), Gate((3, 1), (0, 1)))
+
+
+def great_gates(draw, count):
+    """Gates with numbers up to the limit."""
+    limit = 10 ** 6
+    return [Gate((draw.randint(1, limit), draw.randint(1, limit)),
+                 (draw.randint(-limit, limit), draw.randint(1, limit))) for _ in range(count)]
+
+
+def mixed_gates(draw, count):
+    """Gates from a small pool, so that some are equal, parallel, opposite, or change nothing."""
+    factors = ((1, 2), (1, 1), (2, 1), (1, 4))
+    return [Gate(draw.choice(factors), (draw.randint(-2, 2), draw.randint(1, 2))) for _ in range(count)]
+
+
+def closing_gates(draw, count):
+    """Gates whose best orders have a line that changes nothing."""
+    factors = [draw.choice([Fraction(1, 2), Fraction(1), Fraction(2)]) for _ in range(count - 1)]
+    known = [(factor, Fraction(draw.randint(-3, 3))) for factor in factors]
+    product_of_all = Fraction(1)
+    for factor in factors:
+        product_of_all *= factor
+    bounds = []
+    for order in permutations(range(count)):
+        amount, weight = Fraction(0), Fraction(0)
+        for index in order:
+            # The last gate is the one that closes: its factor is known, and its amount is weighed.
+            if index == count - 1:
+                amount, weight = amount / product_of_all, Fraction(1)
+            else:
+                amount, weight = known[index][0] * amount + known[index][1], known[index][0] * weight
+        bounds.append(-amount / weight)
+    known.append((1 / product_of_all, min(bounds)))
+    return [Gate(pair(factor), pair(amount)) for factor, amount in known]
+
+
+def tally(gates):
+    """How many orders give each amount: all orders are passed, in whole numbers over one common bottom."""
+    steps = []
+    for gate in gates:
+        (top, bottom), (lift, scale) = gate.factor, gate.amount
+        steps.append((top * scale, lift * bottom, bottom * scale))
+    found = {}
+
+    def visit(left, top, bottom):
+        if not left:
+            found[Fraction(top, bottom)] = found.get(Fraction(top, bottom), 0) + 1
+        for index in left:
+            stretch, lift, scale = steps[index]
+            visit(tuple(other for other in left if other != index), stretch * top + lift * bottom, scale * bottom)
+
+    visit(tuple(range(len(gates))), 0, 1)
+    return found
+
+
+def half(arrow):
+    """0 for directions from straight right to before straight left, 1 for the others."""
+    across, up = arrow
+    return 0 if up > 0 or (up == 0 and across > 0) else 1
+
+
+def compare_directions(one, other):
+    if half(one) != half(other):
+        return half(one) - half(other)
+    turned = one[0] * other[1] - one[1] * other[0]
+    return (turned < 0) - (turned > 0)
+
+
+def round_orders(gates):
+    """All orders that pass the gates by the directions of their arrows once round, counterclockwise."""
+    arrows = {index: arrow_of(gate) for index, gate in enumerate(gates)}
+    still = [index for index in arrows if arrows[index] == (0, 0)]
+    moving = sorted((index for index in arrows if arrows[index] != (0, 0)),
+                    key=cmp_to_key(lambda one, other: compare_directions(arrows[one], arrows[other])))
+    return [moving[cut:] + moving[:cut] + still for cut in range(max(1, len(moving)))]
+
+
+def greatest_amount(gates):
+    """The greatest amount of all orders, as [10] tells to find it."""
+    return max(result(gates, order) for order in round_orders(gates))
+
+
+def least_amount(gates):
+    """The least amount of all orders: those of the greatest one, passed backward."""
+    return min(result(gates, order[::-1]) for order in round_orders(gates))

@@ -65,6 +65,82 @@ raises NoOrder
 >>> gates = [Gate((1, 2), (3, 1)), Gate((1, 1), (1, 1)), Gate((2, 1), (-1, 1))]
 >>> gain(gates, [0, 1, 2])
 None
+
+>>> from bestround.gates import Gate
+>>> from bestround.rounds import best, worst
+>>> gates = [Gate((1, 2), (3, 1)), Gate((1, 1), (1, 1)), Gate((2, 1), (-1, 1))]
+>>> (best(gates), worst(gates))
+([0, 1, 2], [2, 1, 0])
+
+>>> from bestround.gates import Gate
+>>> from bestround.rounds import ends
+>>> gates = [Gate((1, 2), (3, 1)), Gate((1, 1), (1, 1)), Gate((2, 1), (-1, 1))]
+>>> ends(gates, (0, 1))
+((3, 1), (7, 1))
+
+>>> from bestround.gates import Gate
+>>> from bestround.rounds import climb
+>>> gates = [Gate((1, 2), (3, 1)), Gate((1, 1), (1, 1)), Gate((2, 1), (-1, 1))]
+>>> climb(gates, [2, 1, 0])
+[[2, 1, 0], [1, 2, 0], [0, 1, 2]]
+
+>>> from bestround.gates import Gate
+>>> from bestround.rounds import count_best
+>>> gates = [Gate((1, 2), (3, 1)), Gate((1, 1), (1, 1)), Gate((2, 1), (-1, 1))]
+>>> (count_best(gates), count_best(gates + [Gate((1, 1), (0, 1))]))
+(1, 4)
+
+>>> from bestround.gates import Gate
+>>> from bestround.rounds import count_best
+>>> count_best([Gate((1, 1), (-12, 1)), Gate((1, 2), (0, 1)), Gate((1, 1), (6, 1)), Gate((2, 1), (0, 1))])
+4
+
+>>> from bestround.gates import Gate
+>>> from bestround.slacks import slack
+>>> gates = [Gate((1, 2), (3, 1)), Gate((1, 1), (1, 1)), Gate((2, 1), (-1, 1))]
+>>> slack(gates, [0, 1, 2], 1)
+((0, 1), None)
+
+>>> from bestround.gates import Gate
+>>> from bestround.slacks import slack
+>>> gates = [Gate((1, 2), (3, 1)), Gate((1, 1), (1, 1)), Gate((2, 1), (-1, 1))]
+>>> slack(gates, [2, 1, 0], 1)
+raises NotBest
+
+>>> from bestround.gates import Gate
+>>> from bestround.bags import Bag, Block, solve, ways
+>>> gates = [Gate((1, 2), (3, 1)), Gate((1, 1), (1, 1)), Gate((2, 1), (-1, 1))]
+>>> bag = Bag([gates[0], Block([gates[2], gates[1]])])
+>>> found = solve(bag)
+>>> (found.line.amount, found.order, ways(bag))
+((6, 1), (0, 1, 2), 2)
+
+>>> from bestround.gates import Gate
+>>> from bestround.bags import Bag
+>>> Bag([])
+raises BadCount(what='parts', count=0)
+
+>>> from bestround.gates import Gate
+>>> from bestround.bounds import Loose
+>>> loose = Loose(Gate((1, 2), (3, 1)), Gate((1, 1), (2, 1)))
+>>> (loose.low.factor, loose.low.amount, loose.high.factor, loose.high.amount)
+((1, 2), (2, 1), (1, 1), (3, 1))
+
+>>> from bestround.gates import Gate
+>>> from bestround.bounds import Loose, compare
+>>> first = Gate((1, 2), (3, 1))
+>>> some = [Loose(first, first), Loose(Gate((1, 1), (1, 1)), Gate((1, 1), (2, 1)))]
+>>> found = compare(some, [0, 1], [1, 0])
+>>> (found.least, found.greatest)
+((1, 2), (1, 1))
+
+>>> from bestround.gates import Gate
+>>> from bestround.bounds import Loose, surely_best
+>>> first = Gate((1, 2), (3, 1))
+>>> some = [Loose(first, first), Loose(Gate((1, 1), (1, 1)), Gate((1, 1), (2, 1)))]
+>>> doubt = surely_best(some, [1, 0])
+>>> (surely_best(some, [0, 1]), doubt.exchange.begin, doubt.exchange.middle, doubt.exchange.end)
+(None, 0, 1, 2)
 """
 
 

@@ -3,7 +3,7 @@
 import inspect
 import unittest
 
-from bestround import errors, gates, paths
+from bestround import bags, bounds, errors, gates, paths, rounds, slacks
 
 ARGUMENTS = {
     gates: {
@@ -12,6 +12,19 @@ ARGUMENTS = {
     },
     paths: {
         "points": ["gates", "order"], "Exchange": ["begin", "middle", "end", "worth"], "gain": ["gates", "order"],
+    },
+    rounds: {
+        "best": ["gates"], "worst": ["gates"], "ends": ["gates", "x"], "climb": ["gates", "order"],
+        "count_best": ["gates"],
+    },
+    slacks: {"slack": ["gates", "order", "index"]},
+    bags: {
+        "Block": ["parts"], "Bag": ["parts"], "Solved": ["line", "order"], "solve": ["item"], "least": ["item"],
+        "ways": ["item"], "leaves": ["item"],
+    },
+    bounds: {
+        "Loose": ["low", "high"], "Spread": ["least", "greatest", "low", "high"], "Doubt": ["corner", "exchange"],
+        "spread": ["some", "order", "x"], "compare": ["some", "order", "other"], "surely_best": ["some", "order"],
     },
 }
 
