@@ -25,14 +25,12 @@ def best_lasts(gates):
 
 
 def best_order(gates):
+    """Return the smallest list of indexes of all best orders."""
     lasts = best_lasts(gates)
-    left = len(lasts) - 1
-    backward = []
-    while left:
-        index = lasts[left][0]
-        backward.append(index)
-        left -= 1 << index
-    return backward[::-1]
+    smallest = [[]]
+    for chosen in range(1, len(lasts)):
+        smallest.append(min([smallest[chosen - (1 << index)] + [index] for index in lasts[chosen]]))
+    return smallest[-1]
 
 
 def worst_order(gates):

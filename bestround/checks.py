@@ -1,10 +1,13 @@
-"""The limits of fractions, lists of gates and orders."""
+"""The limits of fractions, lists of gates, orders and names."""
 
-from bestround.errors import BadCount, NoOrder
+from bestround.errors import BadCount, NoName, NoOrder
 
 GREATEST_NUMBER = 1000000
 MOST_GATES = 8
 MOST_LOOSE = 4
+MOST_CHARACTERS = 8
+LETTERS = "abcdefghijklmnopqrstuvwxyz"
+DIGITS = "0123456789"
 
 
 def check_fraction(fraction):
@@ -16,8 +19,8 @@ def check_fraction(fraction):
             raise BadCount("number", number)
 
 
-def check_gates(gates):
-    if not 1 <= len(gates) <= MOST_GATES:
+def check_gates(gates, most=MOST_GATES):
+    if not 1 <= len(gates) <= most:
         raise BadCount("gates", len(gates))
 
 
@@ -45,3 +48,14 @@ def is_order(order, many):
 def check_order(gates, order):
     if not is_order(order, len(gates)):
         raise NoOrder()
+
+
+def only_of(text, characters):
+    return all([character in characters for character in text])
+
+
+def check_name(name):
+    if not 1 <= len(name) <= MOST_CHARACTERS:
+        raise NoName(name)
+    if name[0] not in LETTERS or not only_of(name, LETTERS + DIGITS):
+        raise NoName(name)

@@ -58,6 +58,10 @@ def below(one, other):
     return one[0] * other[1] < other[0] * one[1]
 
 
+def same(one, other):
+    return one[0] * other[1] == other[0] * one[1]
+
+
 def smaller(one, other):
     return lowest(other) if below(other, one) else lowest(one)
 

@@ -160,3 +160,46 @@ def greatest_amount(gates):
 def least_amount(gates):
     """The least amount of all orders: those of the greatest one, passed backward."""
     return min(result(gates, order[::-1]) for order in round_orders(gates))
+
+
+def state_of(book):
+    """All that a book tells of its state."""
+    names = book.names()
+    return names, [book.gate(name) for name in names], book.planned(), book.many()
+
+
+def filled(book, gates, names):
+    for name, gate in zip(names, gates):
+        book.keep(name, gate)
+    return book
+
+
+def first_gain(gates, order):
+    """The order after its first gain, and the worth, found by passing the gates; None if there is no gain."""
+    many, amount = len(order), result(gates, order)
+    for begin in range(many):
+        for middle in range(begin + 1, many):
+            for end in range(middle + 1, many + 1):
+                other = order[:begin] + order[middle:end] + order[begin:middle] + order[end:]
+                change = result(gates, other) - amount
+                if change > 0:
+                    return other, pair(change)
+    return None
+
+
+def smallest_best(gates):
+    """The smallest best order, gate by gate: after each one, a round by direction must still reach the greatest."""
+    goal = greatest_amount(gates)
+    order, value, left = [], Fraction(0), list(range(len(gates)))
+
+    def still_best(index):
+        behind = [gates[other] for other in left if other != index]
+        begun = result(gates, [index], value)
+        return max(result(behind, round_order, begun) for round_order in round_orders(behind)) == goal
+
+    while left:
+        index = next(index for index in left if still_best(index))
+        order.append(index)
+        left.remove(index)
+        value = result(gates, [index], value)
+    return order

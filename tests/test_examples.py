@@ -1,4 +1,4 @@
-"""The examples of the document that the landed stages cover, copied from it word for word."""
+"""All examples of the document, copied from it word for word."""
 
 import unittest
 
@@ -141,6 +141,49 @@ raises BadCount(what='parts', count=0)
 >>> doubt = surely_best(some, [1, 0])
 >>> (surely_best(some, [0, 1]), doubt.exchange.begin, doubt.exchange.middle, doubt.exchange.end)
 (None, 0, 1, 2)
+
+>>> from bestround.gates import Gate
+>>> from bestround.leads import lead
+>>> gates = [Gate((1, 2), (3, 1)), Gate((1, 1), (1, 1)), Gate((2, 1), (-1, 1))]
+>>> lead(gates[:2], (0, 1), (4, 1))
+[(0, 1)]
+
+>>> from bestround.gates import Gate
+>>> from bestround.book import Book
+>>> book = Book()
+>>> book.keep('x', Gate((2, 1), (-1, 1)))
+>>> book.keep('y', Gate((1, 2), (3, 1)))
+>>> won = book.improve()
+>>> (won, book.planned(), book.best())
+((5, 2), ['y', 'x'], ['y', 'x'])
+
+>>> from bestround.book import Book
+>>> Book().best()
+raises Empty
+
+>>> from bestround.gatetexts import fraction_text, read_fraction
+>>> (fraction_text((-3, 6)), read_fraction('6/4'))
+('-1/2', (3, 2))
+
+>>> from bestround.gatetexts import read_fraction
+>>> read_fraction('3/1')
+raises BadText(place=0)
+
+>>> from bestround.gatetexts import gate_text, read_gate
+>>> gate_text(read_gate('2/4 3'))
+'1/2 3'
+
+>>> from bestround.desk import Desk
+>>> desk = Desk()
+>>> desk.tell('keep a 1/2 3')
+>>> desk.tell('keep b 1 1')
+>>> desk.tell('ends 0')
+['7/2 4']
+
+>>> from bestround.desk import Desk
+>>> desk = Desk()
+>>> desk.tell('amount')
+['refused empty']
 """
 
 

@@ -3,7 +3,7 @@
 import inspect
 import unittest
 
-from bestround import bags, bounds, errors, gates, paths, rounds, slacks
+from bestround import bags, book, bounds, desk, errors, gates, gatetexts, leads, paths, rounds, slacks
 
 ARGUMENTS = {
     gates: {
@@ -26,6 +26,19 @@ ARGUMENTS = {
         "Loose": ["low", "high"], "Spread": ["least", "greatest", "low", "high"], "Doubt": ["corner", "exchange"],
         "spread": ["some", "order", "x"], "compare": ["some", "order", "other"], "surely_best": ["some", "order"],
     },
+    leads: {"lead": ["gates", "x", "goal"]},
+    book: {"Book": []},
+    gatetexts: {
+        "fraction_text": ["fraction"], "read_fraction": ["text"], "gate_text": ["gate"], "read_gate": ["text"],
+    },
+    desk: {"Desk": []},
+}
+METHODS = {
+    book.Book: {
+        "keep": ["name", "gate"], "drop": ["name"], "gate": ["name"], "names": [], "best": [], "best_amount": [],
+        "plan": ["names"], "planned": [], "improve": [], "many": [], "back": [],
+    },
+    desk.Desk: {"tell": ["row"]},
 }
 
 
@@ -46,6 +59,12 @@ class InterfaceTest(unittest.TestCase):
             kind = getattr(errors, name)
             self.assertIn("told", vars(kind), name)
             self.assertEqual(kind.__module__, "bestround.errors")
+
+    def test_methods_stand_in_the_very_class(self):
+        for kind, methods in METHODS.items():
+            for name, arguments in methods.items():
+                self.assertIn(name, vars(kind))
+                self.assertEqual(list(inspect.signature(vars(kind)[name]).parameters)[1:], arguments, name)
 
     def test_arguments_by_keyword(self):
         gate = gates.Gate(factor=(1, 2), amount=(3, 1))

@@ -94,5 +94,27 @@ class LanguageTest(unittest.TestCase):
                 self.assertNotIsInstance(node.value, (float, complex), path)
 
 
+    def test_no_name_is_both_a_method_and_an_attribute(self):
+        methods, attributes = set(), set()
+        for path in files():
+            for kind in nodes(path, ast.ClassDef):
+                methods |= {node.name for node in kind.body if isinstance(node, ast.FunctionDef)}
+            attributes |= {node.attr for node in nodes(path, ast.Attribute) if isinstance(node.ctx, ast.Store)}
+        self.assertGreater(len(attributes), 10)
+        self.assertEqual(methods & attributes, set())
+
+    def test_no_generators(self):
+        for path in files():
+            self.assertEqual(nodes(path, ast.GeneratorExp, ast.Yield, ast.YieldFrom), [], path)
+
+    def test_no_local_name_is_an_import_or_a_class(self):
+        for path in files():
+            taken = {alias.name for node in nodes(path, ast.ImportFrom) for alias in node.names}
+            taken |= {node.name for node in nodes(path, ast.ClassDef)}
+            local = {node.id for node in nodes(path, ast.Name) if isinstance(node.ctx, ast.Store)}
+            local |= {node.arg for node in nodes(path, ast.arg)}
+            self.assertEqual(taken & local, set(), path)
+
+
 if __name__ == "__main__":
     unittest.main()
